@@ -1,0 +1,1 @@
+"""Machines of states that read bytes, made from drawings as small as can be."""
