@@ -6,6 +6,7 @@ from bytemachines.drawings import answers
 
 LEAST = -2147483648
 MOST = 2147483647
+GREATEST_PLACE = 18446744073709551615
 
 
 class LineCase(unittest.TestCase):
@@ -32,6 +33,24 @@ def make(o=0):
 
 def row(number, o=0):
     return [5, o, number]
+
+
+def tried(word, o=0, n=None):
+    """The call takes; n stands in for how many bytes the word has where it's to be out of its range."""
+    return [6, o, len(word) if n is None else n, len(word), *word]
+
+
+def counted(n, o=0):
+    return [7, o, n]
+
+
+def at(k, most=4096, o=0):
+    """The call word."""
+    return [8, o, k, most]
+
+
+def apart(o=0, most=4096):
+    return [9, o, 1 - o, most]
 
 
 def told(*calls):
@@ -67,6 +86,11 @@ def machine(taking, steps):
     return [(one[1:257], one[257]) for one in rows]
 
 
+def all_of(taking, steps, calls):
+    """Draw and make object 0 and answer what these calls on it are answered."""
+    return told(*drawing(taking, steps), make(), *calls)[-len(calls):]
+
+
 def whole(*spans):
     """Answer 256 states from pairs of how many bytes and the state they lead to."""
     row_of_states = [target for count, target in spans for place in range(count)]
@@ -83,4 +107,34 @@ def one_before_last(count, high=255):
     taking = [0] * count + [1]
     steps = [(0, 0, high, 0), (0, 1, 1, 1)]
     steps += [(place, 0, high, place + 1) for place in range(1, count)]
+    return taking, steps
+
+
+EVERY_WORD = ([1], [(0, 0, 255, 0)])
+NO_WORD = ([0], [(0, 0, 255, 0)])
+THE_EMPTY_WORD = ([1], [])
+ONLY_A = ([1], [(0, 97, 97, 0)])
+
+
+def only(*words):
+    """A drawing that takes just these words, of which at most one is empty."""
+    taking = [int(any(len(word) == 0 for word in words))]
+    steps = []
+    for word in words:
+        before = 0
+        for place, byte in enumerate(word):
+            steps.append((before, byte, byte, len(taking)))
+            before = len(taking)
+            taking.append(int(place == len(word) - 1))
+    return taking, steps
+
+
+def but_for_1001():
+    """A drawing that takes words of 1 byte and more, but for those whose number of bytes can be divided by 1001."""
+    taking, steps = [0], []
+    for length in (7, 11, 13):
+        begin = len(taking)
+        taking += [0] + [1] * (length - 1)
+        steps += [(begin + place, 0, 255, begin + (place + 1) % length) for place in range(length)]
+        steps.append((0, 0, 255, begin + 1))
     return taking, steps

@@ -36,12 +36,25 @@ WORDS = (
 )
 
 
+WALKED = "zip enumerate reversed range items keys values".split()
+WALKERS = "list tuple dict sorted sum any all enumerate zip min max".split()
+# Own methods and values may not be called like those of Python's own values, but for these.
+TAKEN_NAMES = {name for kind in (str, int, list, dict, set, bytes) for name in dir(kind) if not name.startswith("__")}
+FREE_METHODS = {"add", "discard", *METHODS}
+FREE_VALUES = set("count index title find get join lower upper split strip copy add".split())
+
+
 def parsed():
     return [(path, ast.parse(path.read_text())) for path in sorted(PACKAGE.glob("*.py"))]
 
 
 def nodes(kind):
     return [(path, node) for path, tree in parsed() for node in ast.walk(tree) if isinstance(node, kind)]
+
+
+def called(node):
+    """Answer the name by which a call calls."""
+    return node.func.attr if isinstance(node.func, ast.Attribute) else getattr(node.func, "id", None)
 
 
 class LanguageTest(unittest.TestCase):
@@ -92,6 +105,44 @@ class LanguageTest(unittest.TestCase):
         methods = {part.name for path, node in nodes(ast.ClassDef) for part in node.body}
         values = {node.attr for path, node in nodes(ast.Attribute) if isinstance(node.ctx, ast.Store)}
         self.assertEqual(methods & values, set())
+
+    def test_own_methods_and_values_have_free_names(self):
+        methods = {part.name for path, node in nodes(ast.ClassDef) for part in node.body} - {"__init__"}
+        values = {node.attr for path, node in nodes(ast.Attribute) if isinstance(node.ctx, ast.Store)}
+        self.assertEqual(methods & (TAKEN_NAMES - FREE_METHODS), set())
+        self.assertEqual(values & (TAKEN_NAMES - FREE_VALUES), set())
+
+    def test_walked_on_the_spot(self):
+        for path, tree in parsed():
+            on_the_spot = []
+            for node in ast.walk(tree):
+                if isinstance(node, (ast.For, ast.comprehension)):
+                    on_the_spot.append(node.iter)
+                if isinstance(node, ast.Call) and called(node) in WALKERS:
+                    on_the_spot.extend(node.args[:1])
+            for node in ast.walk(tree):
+                if isinstance(node, ast.Call) and called(node) in WALKED:
+                    self.assertIn(node, on_the_spot, (path, node.lineno))
+
+    def test_sets_are_not_kept(self):
+        for path, tree in parsed():
+            beside = []
+            for node in ast.walk(tree):
+                if isinstance(node, ast.Compare):
+                    beside.extend([node.left, *node.comparators])
+                if isinstance(node, ast.Call) and called(node) in ("sorted", "len"):
+                    beside.extend(node.args)
+            for node in ast.walk(tree):
+                self.assertNotIsInstance(node, (ast.Set, ast.SetComp), path)
+                if isinstance(node, ast.Call) and called(node) in ("set", "frozenset"):
+                    self.assertIn(node, beside, (path, node.lineno))
+
+    def test_no_powers_and_no_large_numbers(self):
+        for path, node in nodes(ast.Pow):
+            self.fail(path)
+        for path, node in nodes(ast.Constant):
+            if isinstance(node.value, int):
+                self.assertLessEqual(node.value, 2 ** 64, (path, node.lineno))
 
     def test_imports_are_the_package_s_own(self):
         for path, node in nodes(ast.ImportFrom):

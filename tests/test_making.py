@@ -3,7 +3,7 @@
 import unittest
 
 from tests.lines import (
-    LEAST, MOST, LineCase, drawing, machine, make, one_before_last, opened, row, state, step, told, whole,
+    LEAST, MOST, LineCase, but_for_1001, drawing, machine, make, one_before_last, opened, row, state, step, told, whole,
 )
 
 
@@ -90,13 +90,7 @@ class MakeTest(LineCase):
 
     def test_words_of_one_number_of_bytes_left_out(self):
         # Rounds of 7, 11 and 13 states, of each all but the first take: 1001 states, told apart one after another.
-        taking, steps = [0], []
-        for length in (7, 11, 13):
-            begin = len(taking)
-            taking += [0] + [1] * (length - 1)
-            steps += [(begin + place, 0, 255, begin + (place + 1) % length) for place in range(length)]
-            steps.append((0, 0, 255, begin + 1))
-        said = told(*drawing(taking, steps), make(), row(0), row(1), row(1000), row(1001))
+        said = told(*drawing(*but_for_1001()), make(), row(0), row(1), row(1000), row(1001))
         self.assertEqual(said[-5:-3], [[1001], [0] + [1] * 256 + [0]])
         self.assertEqual(said[-3:], [[0] + [2] * 256 + [1], [0] + [0] * 256 + [1], [-2]])
 
